@@ -121,15 +121,20 @@ func toldDistance(s impl.Shape, index int64, p impl.Vector) (float32, int64) {
 		return d, first
 	}
 	a, leaf := toldDistance(s, n.A, toldPoint(n, p))
+	return toldAbove(n, a), leaf
+}
+
+// toldAbove returns the distance of a node with one child, which has the distance a.
+func toldAbove(n impl.Node, a float32) float32 {
 	switch n.Kind {
 	case impl.NodeScale:
-		a = product(a, n.Numbers[0])
+		return product(a, n.Numbers[0])
 	case impl.NodeRound:
-		a = difference(a, n.Numbers[0])
+		return difference(a, n.Numbers[0])
 	case impl.NodeShell:
-		a = difference(toldSize(a), n.Numbers[0])
+		return difference(toldSize(a), n.Numbers[0])
 	}
-	return a, leaf
+	return a
 }
 
 func toldFactor(s impl.Shape, index int64) float32 {
